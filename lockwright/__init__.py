@@ -1,0 +1,1 @@
+"""Lockwright: which packages, why these first, why none, and how they are laid down."""
