@@ -51,7 +51,7 @@ def is_need(name, features, thing):
     if not is_tuple_of(4, thing):
         return False
     feature, other, rng, wanted = thing
-    if feature != "" and not (is_name(feature) and feature in [pair[0] for pair in features]):
+    if feature != "" and feature not in [pair[0] for pair in features]:
         return False
     return is_other(name, other) and is_range(rng) and is_wanted(wanted)
 
@@ -180,7 +180,7 @@ def versions(book, name):
 def found_entry(book, name, version):
     """The entry of a name and a version in a book, None if there is none or if they are something else."""
     # True is as good as 1 where tuples are compared, but no number of a version.
-    if not is_name(name) or not is_version(version):
+    if not is_version(version):
         return None
     for entry in book.entries:
         if entry.name == name and entry.version == version:

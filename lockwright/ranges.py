@@ -140,16 +140,13 @@ def range_text(rng):
 
 
 def told_number(text):
-    """The number that a text tells without needless noughts, None if it tells none up to 1000000."""
+    """The number that a text of at most seven digits, without needless noughts, tells, None if it is none."""
     # Longer texts are not even read: Python refuses to read very long ones.
     if len(text) > NUMBER_DIGITS or not text.isascii() or not text.isdigit():
         return None
     if text != "0" and text.startswith("0"):
         return None
-    number = int(text)
-    if number > NUMBER_MOST:
-        return None
-    return number
+    return int(text)
 
 
 def told_version(text):

@@ -20,9 +20,17 @@ FUNCTIONS = {
         "offered(entry)", "turned(entry, features)", "packages(book)", "versions(book, name)",
         "entry_of(book, name, version)", "with_entry(book, one)", "without(book, name, version)",
     ],
+    "booktexts": ["book_text(book)", "read_book(text)"],
+    "questions": ["question_text(question)", "read_question(text)"],
+    "installations": [
+        "fault(book, question, thing)", "core(book, question, installation)",
+        "way_to(book, question, installation, name)", "is_right(book, question, thing)",
+    ],
+    "ahead": ["choices(book, question, name)", "priority(book, question)", "is_ahead(book, question, one, other)"],
 }
 CLASSES = {
     "books": {"Entry": ["name", "version", "features", "needs", "bars"], "Book": ["entries"]},
+    "questions": {"Question": ["wishes", "locks"]},
 }
 
 BUILTINS = set(
