@@ -132,7 +132,7 @@ class BadLineTest(unittest.TestCase):
             "  needs lib ( *)", "  needs lib (* )", "  needs lib (*) ", "  needs Lib (*)", "  needs lib ((*))", "  needs lib (*))",
             "  needs lib (01.0.0)", "  needs lib (1.0.1000000)", "  needs lib (*,*)", "  needs lib (*, x)", "  needs lib (*) with",
             "  needs lib (*) with ", "  needs lib (*) with  a", "  needs lib (*) with a  b", "  needs lib (*) with a,b",
-            "  needs lib (*) with A", "  needs lib (*)with a", "  needs lib (*)  with a", "  needs lib (*) wants a", "  needs lib (*) a",
+            "  needs lib (*) with A", "  needs lib (*)with a", "  needs lib (*)a", "  needs lib (*)a b", "  needs lib (*)  with a", "  needs lib (*) wants a", "  needs lib (*) a",
             "  needs lib (*) with a with b", "  needs lib (*) (*)", "  needs f needs lib (*)",
             "  if needs lib (*)", "  if  needs lib (*)", "  if f lib (*)", "  if f  needs lib (*)", "  if f needs lib", "  if f bars lib (*)",
             "  if f g needs lib (*)", "if f needs lib (*)", "f needs lib (*)", "  f needs lib (*)", "  if F needs lib (*)", "  if f feature g",

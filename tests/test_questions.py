@@ -138,7 +138,7 @@ class QuestionTextTest(unittest.TestCase):
             "", " ", "wish", "wish ", "wish app", "wish app *", "wish app (*", "wish app ()", "wish app (*) ", "wish app(*)", "wish  app (*)",
             "wish app  (*)", " wish app (*)", "  wish app (*)", "wish App (*)", "wish (*)", "wish app (01.0.0)", "wish app (1.0.1000000)",
             "wish app (*) with", "wish app (*) with ", "wish app (*) with b a", "wish app (*) with a a", "wish app (*) with a b c d e",
-            "wish app (*) with  a", "wish app (*) with A", "wish app (*) a", "wishes app (*)", "Wish app (*)", "needs app (*)", "app (*)",
+            "wish app (*) with  a", "wish app (*) with A", "wish app (*) a", "wish app (*)a", "wish app (*)a b", "wishes app (*)", "Wish app (*)", "needs app (*)", "app (*)",
             "wish abcdefghijklm (*)", "wish app (*) (*)",
             "lock", "lock ", "lock app", "lock app 1.0", "lock app 01.0.0", "lock app  1.0.0", " lock app 1.0.0", "lock app 1.0.0 ",
             "lock App 1.0.0", "lock app (1.0.0)", "lock app 1000001.0.0", "lock app 1.0.0 with f", "locks app 1.0.0", "lock 1.0.0",
