@@ -1,12 +1,22 @@
-"""Plain shapes that arguments are judged by: numbers, names, lots of names, tuples of a size."""
+"""Plain shapes that arguments are judged by: numbers, flags, names, lots of names, tuples of a size."""
 
 NAME_MOST = 12
 WANTED_MOST = 4
 
 
+def is_integer(thing):
+    """Whether a thing is an integer, which a flag is not."""
+    return isinstance(thing, int) and not isinstance(thing, bool)
+
+
 def is_number(thing):
     """Whether a thing is an integer from 0 on."""
-    return isinstance(thing, int) and not isinstance(thing, bool) and thing >= 0
+    return is_integer(thing) and thing >= 0
+
+
+def is_flag(thing):
+    """Whether a thing is True or False."""
+    return isinstance(thing, bool)
 
 
 def is_name(thing):
@@ -41,3 +51,13 @@ def is_tuple_of(many, thing):
 def is_tuple_within(most, thing):
     """Whether a thing is a tuple of at most so many."""
     return isinstance(thing, tuple) and len(thing) <= most
+
+
+def is_flags(many, thing):
+    """Whether a thing is a tuple of just so many flags."""
+    if not is_tuple_of(many, thing):
+        return False
+    for flag in thing:
+        if not is_flag(flag):
+            return False
+    return True

@@ -27,11 +27,21 @@ FUNCTIONS = {
         "way_to(book, question, installation, name)", "is_right(book, question, thing)",
     ],
     "ahead": ["choices(book, question, name)", "priority(book, question)", "is_ahead(book, question, one, other)"],
+    "sayings": [
+        "order_of(book, question)", "axioms_of(book, question)", "axiom_of(book, question, source)",
+        "stand_of(book, question, installation)", "meant_by(book, question, stand)",
+    ],
+    "tasks": ["task_of(book, question)", "is_fitting(task, givens, thing)", "first_wrong(task, stand)"],
+    "papers": ["clauses_of(task, givens, thing)", "is_paper(task, givens, thing)"],
+    "search": ["solved(task, givens)", "follows(task, givens, literal)"],
 }
 CLASSES = {
     "books": {"Entry": ["name", "version", "features", "needs", "bars"], "Book": ["entries"]},
     "questions": {"Question": ["wishes", "locks"]},
+    "tasks": {"Task": ["order", "axioms"]},
 }
+CHANGING = ["append", "clear", "extend", "insert", "pop", "remove", "reverse", "setdefault", "update", "sort"]
+LIBRARY = {"itertools": ["combinations"]}
 
 BUILTINS = set(
     "len range enumerate zip min max sum abs sorted reversed int str bool list tuple dict set isinstance ord repr any all "
@@ -117,6 +127,9 @@ class RulesTest(unittest.TestCase):
                 if isinstance(node, ast.ImportFrom):
                     self.assertIn(node, tree.body)
                     self.assertEqual(node.level, 0)
+                    if node.module in LIBRARY:
+                        self.assertLessEqual({(name.name, name.asname) for name in node.names}, {(word, None) for word in LIBRARY[node.module]})
+                        continue
                     home = node.module.removeprefix("lockwright.")
                     self.assertIn(home, stems)
                     defined = top(TREES[home], (ast.FunctionDef, ast.ClassDef))
@@ -124,6 +137,36 @@ class RulesTest(unittest.TestCase):
                     for name in node.names:
                         self.assertIsNone(name.asname)
                         self.assertIn(name.name, list(defined) + named)
+
+    def test_imports_make_no_ring(self):
+        home = "lockwright."
+        wanted = {
+            stem: {node.module.removeprefix(home) for node in tree.body if isinstance(node, ast.ImportFrom) and node.module.startswith(home)}
+            for stem, tree in TREES.items()
+        }
+        while wanted:
+            free = [stem for stem, others in wanted.items() if not others & set(wanted)]
+            self.assertNotEqual(free, [], wanted)
+            for stem in free:
+                del wanted[stem]
+
+    def test_no_name_is_a_method_and_an_attribute(self):
+        for stem, tree in TREES.items():
+            for kind in top(tree, ast.ClassDef).values():
+                methods = [node.name for node in kind.body if isinstance(node, ast.FunctionDef)]
+                self.assertEqual(len(methods), len(set(methods)), (stem, kind.name))
+                told = {node.attr for node in ast.walk(kind) if isinstance(node, ast.Attribute) and isinstance(node.ctx, ast.Store)}
+                self.assertEqual(told & set(methods), set(), (stem, kind.name))
+
+    def test_what_a_loop_goes_over_is_not_changed_in_it(self):
+        for stem, tree in TREES.items():
+            for loop in [node for node in ast.walk(tree) if isinstance(node, ast.For)]:
+                over = {ast.unparse(node) for node in ast.walk(loop.iter) if isinstance(node, (ast.Name, ast.Attribute))}
+                for node in [node for row in loop.body for node in ast.walk(row)]:
+                    if isinstance(node, ast.Call) and isinstance(node.func, ast.Attribute) and node.func.attr in CHANGING:
+                        self.assertNotIn(ast.unparse(node.func.value), over, stem)
+                    if isinstance(node, ast.Subscript) and not isinstance(node.ctx, ast.Load):
+                        self.assertNotIn(ast.unparse(node.value), over, stem)
 
     def test_each_import_is_used(self):
         for stem, tree in TREES.items():
@@ -152,6 +195,9 @@ class RulesTest(unittest.TestCase):
     def test_calls(self):
         for stem, tree in TREES.items():
             own = {name for other in TREES.values() for name in top(other, (ast.FunctionDef, ast.ClassDef))}
+            own |= {word for words in LIBRARY.values() for word in words}
+            # A function from a table is called by the name that it is given there.
+            own |= {name for node in functions(tree) for name in bound(node)}
             methods = {node.name for other in TREES.values() for node in functions(other)}
             for node in ast.walk(tree):
                 if isinstance(node, ast.Call) and isinstance(node.func, ast.Name):
