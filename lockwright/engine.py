@@ -209,6 +209,10 @@ class Engine:
         self.retreat(many)
         del self.assumed[many:]
 
+    def is_brought(self, code, level):
+        """Whether a code is so because of what was decided or assumed up to a level."""
+        return self.truth[code] > 0 and self.levels[code >> 1] <= level
+
     def free(self):
         """The first place that may not yet be told."""
         if not self.starts:

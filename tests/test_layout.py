@@ -34,12 +34,28 @@ FUNCTIONS = {
     "tasks": ["task_of(book, question)", "is_fitting(task, givens, thing)", "first_wrong(task, stand)"],
     "papers": ["clauses_of(task, givens, thing)", "is_paper(task, givens, thing)"],
     "search": ["solved(task, givens)", "follows(task, givens, literal)"],
+    "warrants": [
+        "warrant(task, givens, stand)", "is_warrant(task, givens, stand, thing)", "next_stand(task, givens, stand)",
+        "all_stands(task, givens, many)",
+    ],
+    "trimming": [
+        "trimmed(task, givens, paper)", "shortened(task, givens, paper)", "used(task, givens, paper)",
+        "is_kernel(task, givens, sources)",
+    ],
+    "reasons": [
+        "answer(book, question)", "clashes(book, question)", "given_up(book, question)",
+        "why_not(book, question, name, version)", "why(book, question, name)",
+    ],
 }
 CLASSES = {
     "books": {"Entry": ["name", "version", "features", "needs", "bars"], "Book": ["entries"]},
     "questions": {"Question": ["wishes", "locks"]},
     "tasks": {"Task": ["order", "axioms"]},
 }
+HOUSE = [
+    "__init__(self, book)", "put(self, entry)", "strike(self, name, version)", "undo(self)", "book(self)", "ask(self, question)",
+    "kept(self)", "lemmas(self)", "copy(self)", "journal(self)",
+]
 CHANGING = ["append", "clear", "extend", "insert", "pop", "remove", "reverse", "setdefault", "update", "sort"]
 LIBRARY = {"itertools": ["combinations"]}
 
@@ -101,6 +117,14 @@ class InterfaceTest(unittest.TestCase):
                     methods = {node.name: node for node in defined[name].body if isinstance(node, ast.FunctionDef)}
                     self.assertEqual([arg.arg for arg in methods["__init__"].args.args], ["self"] + arguments)
                     self.assertIn("__eq__", methods)
+
+
+    def test_methods_of_houses(self):
+        defined = {node.name: node for node in top(TREES["houses"], ast.ClassDef)["House"].body if isinstance(node, ast.FunctionDef)}
+        for text in HOUSE:
+            name, arguments = text[:-1].split("(")
+            self.assertEqual(", ".join(arg.arg for arg in defined[name].args.args), arguments)
+            self.assertEqual(defined[name].args.defaults, [])
 
 
 class RulesTest(unittest.TestCase):
