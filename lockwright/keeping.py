@@ -88,10 +88,13 @@ def is_short(inquiry, number):
 
 def lemmas_found(book, inquiry, lemmas):
     """The lemmas that an inquiry adds to those that there are: what it learnt without wishes and locks."""
+    short = [number for number in inquiry.engine.learnt[:LEARNT_MOST] if is_short(inquiry, number)]
+    if not short:
+        return []
     plain = task_of(book, Question((), ()))
     known = [lemma.clause for lemma in lemmas]
     found = []
-    for number in [each for each in inquiry.engine.learnt[:LEARNT_MOST] if is_short(inquiry, each)]:
+    for number in short:
         clause = clause_of([literal_of(inquiry.task, code) for code in inquiry.engine.clauses[number]])
         steps = tuple(inquiry.steps_to(number))
         foreign = [source for source in named_by(steps, "axiom") if source not in plain.numbers]

@@ -318,9 +318,11 @@ class KeptTest(Checks):
     def test_lemmas(self):
         book, question = chain_book(30, (1, 2), ("f", "g"), True)
         house = House(book)
+        early = house.copy()
         house.ask(question)
         told = self.check_lemmas(house)
         self.assertGreater(len(told), 3)
+        self.assertEqual((early.lemmas(), early.kept()), ((), []))
         copied = house.copy()
         self.assertEqual(copied.lemmas(), told)
         self.check_answer(book, question, house.ask(question))
@@ -392,7 +394,7 @@ class LawsTest(Checks):
 
     def test_drawn(self):
         dice = chance(71)
-        gone = stayed = lemmas_seen = 0
+        gone = stayed = 0
         for _ in range(45):
             book, _ = some_world(dice)
             house = House(book)
@@ -409,7 +411,6 @@ class LawsTest(Checks):
                         first = first_by_all(house.book(), question)
                         self.assertEqual(told[1] if told[0] == "first" else None, first)
                 book, before, lemmas = house.book(), house.kept(), house.lemmas()
-                lemmas_seen += len(lemmas)
                 self.some_edit(dice, house)
                 more, less = self.check_edit(house, book, before, lemmas)
                 gone, stayed = gone + more, stayed + less
@@ -417,7 +418,6 @@ class LawsTest(Checks):
                     self.assertEqual(answer(house.book(), question)[:2 if told[0] == "first" else 1], told[:2 if told[0] == "first" else 1])
         self.assertGreater(gone, 200)
         self.assertGreater(stayed, 200)
-        self.assertGreater(lemmas_seen, 5)
 
     def test_drawn_edits_of_a_chain(self):
         dice = chance(73)

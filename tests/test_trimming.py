@@ -94,6 +94,8 @@ class TrimmedTest(unittest.TestCase):
         self.check((), PAPER, PAPER)
         self.check((), PAPER + (("axiom", ("t",)), ("joined", 0, 1, A)), PAPER)
         self.check((), PAPER + PAPER[:2] + (("joined", 3, 4, A),), PAPER)
+        longer = (("axiom", ("s", 2)), ("joined", 0, 3, A), ("axiom", ("s", 1)), ("joined", 4, 5, B), ("axiom", ("t",)), ("joined", 6, 7, C))
+        self.check((), PAPER + longer, PAPER)
 
     def test_steps_that_lead_nowhere(self):
         self.check((), (("axiom", ("t",)), PAPER[0], ("axiom", ("s", 2)), PAPER[1], ("joined", 1, 2, A), ("joined", 1, 3, A)), PAPER)
@@ -216,6 +218,8 @@ class KernelTest(unittest.TestCase):
             every = tuple(sorted(source for source, _ in task.axioms))
             lots = [every, tuple(sorted(dice.sample(every, dice.randint(0, len(every)))))]
             if not fitting(task, givens):
+                paper = wandering(dice, task, givens) or solved(task, givens)[1]
+                lots += [used(task, givens, paper)[0], used(task, givens, solved(task, givens)[1])[0]]
                 least = used(task, givens, shortened(task, givens, solved(task, givens)[1]))[0]
                 lots += [least, least[1:]]
                 lots += [tuple(sorted(set(least) | {dice.choice(every)}))] if every else []
@@ -224,6 +228,16 @@ class KernelTest(unittest.TestCase):
                 self.assertIs(flag, is_told_kernel(task, givens, sources))
                 many[flag] += 1
         self.assertGreater(min(many.values()), 60)
+
+    def test_all_may_be_used_without_need(self):
+        task = Task(((A, True), (B, True), (C, False)), (
+            (("s", 0), ((False, B), (True, C))), (("s", 1), ((False, A), (False, C))), (("s", 2), ((True, B), (True, C))),
+            (("s", 3), ((False, A), (True, B), (True, C))), (("s", 4), ((False, C), (True, A), (True, B))),
+            (("s", 5), ((False, B), (False, C), (True, A))),
+        ))
+        every = tuple(("s", k) for k in range(6))
+        self.assertIs(is_kernel(task, (), every), False)
+        self.assertIs(is_kernel(task, (), every[:3] + every[4:]), True)
 
     def test_no_sources(self):
         for sources in [
