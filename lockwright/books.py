@@ -162,6 +162,8 @@ class Book:
         if index is not None:
             raise BadBook(index)
         self.entries = entries
+        # By name and version, so that long installations are soon looked through.
+        self.places = {place_of(entry): entry for entry in entries}
 
     def __eq__(self, other):
         return isinstance(other, Book) and self.entries == other.entries
@@ -180,12 +182,9 @@ def versions(book, name):
 def found_entry(book, name, version):
     """The entry of a name and a version in a book, None if there is none or if they are something else."""
     # True is as good as 1 where tuples are compared, but no number of a version.
-    if not is_version(version):
+    if not is_name(name) or not is_version(version):
         return None
-    for entry in book.entries:
-        if entry.name == name and entry.version == version:
-            return entry
-    return None
+    return book.places.get((name, version), None)
 
 
 def entry_of(book, name, version):

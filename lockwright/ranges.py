@@ -139,10 +139,10 @@ def range_text(rng):
     return " | ".join([stretch_text(low, high) for low, high in rng])
 
 
-def told_number(text):
-    """The number that a text of at most seven digits, without needless noughts, tells, None if it is none."""
+def told_number(digits, text):
+    """The number that a text of at most so many digits, without needless noughts, tells, None if it is none."""
     # Longer texts are not even read: Python refuses to read very long ones.
-    if len(text) > NUMBER_DIGITS or not text.isascii() or not text.isdigit():
+    if len(text) > digits or not text.isascii() or not text.isdigit():
         return None
     if text != "0" and text.startswith("0"):
         return None
@@ -151,7 +151,7 @@ def told_number(text):
 
 def told_version(text):
     """The version that a text A.B.C tells, None if it tells none."""
-    numbers = tuple([told_number(word) for word in text.split(".")])
+    numbers = tuple([told_number(NUMBER_DIGITS, word) for word in text.split(".")])
     if not is_version(numbers):
         return None
     return numbers

@@ -46,16 +46,29 @@ FUNCTIONS = {
         "answer(book, question)", "clashes(book, question)", "given_up(book, question)",
         "why_not(book, question, name, version)", "why(book, question, name)",
     ],
+    "journals": ["recovered(book, text)"],
+    "locks": ["lock_text(installation)", "read_lock(text)", "locks_of(installation)"],
+    "running": [
+        "is_safe(book, thing)", "is_changeover(book, old, new, thing)", "affected(book, old, new)", "changeover(book, old, new)",
+        "knots(book, installation)",
+    ],
 }
 CLASSES = {
     "books": {"Entry": ["name", "version", "features", "needs", "bars"], "Book": ["entries"]},
     "questions": {"Question": ["wishes", "locks"]},
     "tasks": {"Task": ["order", "axioms"]},
 }
-HOUSE = [
-    "__init__(self, book)", "put(self, entry)", "strike(self, name, version)", "undo(self)", "book(self)", "ask(self, question)",
-    "kept(self)", "lemmas(self)", "copy(self)", "journal(self)",
-]
+METHODS_OF = {
+    ("houses", "House"): [
+        "__init__(self, book)", "put(self, entry)", "strike(self, name, version)", "undo(self)", "book(self)", "ask(self, question)",
+        "kept(self)", "lemmas(self)", "copy(self)", "journal(self)",
+    ],
+    ("running", "Running"): ["__init__(self, book)", "start(self, triples)", "stop(self, names)", "runs(self)", "moves(self)", "copy(self)"],
+    ("shelves", "Shelf"): [
+        "__init__(self)", "cells(self)", "do(self, deed)", "cut(self, deed, many)", "meaning(self)", "edition(self)", "is_sound(self)",
+        "deeds_for(self, installation, contents)", "lay(self, installation, contents)", "mend(self)",
+    ],
+}
 CHANGING = ["append", "clear", "extend", "insert", "pop", "remove", "reverse", "setdefault", "update", "sort"]
 LIBRARY = {"itertools": ["combinations"]}
 
@@ -118,13 +131,14 @@ class InterfaceTest(unittest.TestCase):
                     self.assertEqual([arg.arg for arg in methods["__init__"].args.args], ["self"] + arguments)
                     self.assertIn("__eq__", methods)
 
-
-    def test_methods_of_houses(self):
-        defined = {node.name: node for node in top(TREES["houses"], ast.ClassDef)["House"].body if isinstance(node, ast.FunctionDef)}
-        for text in HOUSE:
-            name, arguments = text[:-1].split("(")
-            self.assertEqual(", ".join(arg.arg for arg in defined[name].args.args), arguments)
-            self.assertEqual(defined[name].args.defaults, [])
+    def test_methods(self):
+        for (stem, kind), wanted in METHODS_OF.items():
+            defined = {node.name: node for node in top(TREES[stem], ast.ClassDef)[kind].body if isinstance(node, ast.FunctionDef)}
+            for text in wanted:
+                name, arguments = text[:-1].split("(")
+                with self.subTest(kind=kind, name=name):
+                    self.assertEqual(", ".join(arg.arg for arg in defined[name].args.args), arguments)
+                    self.assertEqual(defined[name].args.defaults, [])
 
 
 class RulesTest(unittest.TestCase):
