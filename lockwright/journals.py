@@ -17,7 +17,7 @@ def told_entry(lines):
     return entries[0]
 
 
-def is_put(house, lines):
+def put_from(house, lines):
     """Puts the entry of some lines, and tells whether that was done."""
     entry = told_entry(lines)
     if entry is None:
@@ -29,7 +29,7 @@ def is_put(house, lines):
     return True
 
 
-def is_struck(house, text):
+def strike_from(house, text):
     """Strikes the entry of a text NAME A.B.C, and tells whether that was done."""
     place = told_place(text)
     if place is None:
@@ -41,11 +41,11 @@ def is_struck(house, text):
     return True
 
 
-def is_edited(house, lines):
+def edit_from(house, lines):
     """Does the edit of some lines, and tells whether that was done."""
     if lines and lines[0] == "put":
-        return is_put(house, lines[1:])
-    return len(lines) == 1 and lines[0].startswith("strike ") and is_struck(house, lines[0].removeprefix("strike "))
+        return put_from(house, lines[1:])
+    return len(lines) == 1 and lines[0].startswith("strike ") and strike_from(house, lines[0].removeprefix("strike "))
 
 
 def recovered(book, text):
@@ -59,7 +59,7 @@ def recovered(book, text):
     for line in lines_of(text)[0]:
         if line != "done":
             edit.append(line)
-        elif is_edited(house, edit):
+        elif edit_from(house, edit):
             many += len(text_of([*edit, "done"]))
             edit = []
         else:

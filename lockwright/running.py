@@ -108,17 +108,21 @@ def changeover(book, old, new):
     return tuple(moves)
 
 
-def is_moved(running, move):
+def is_move(thing):
+    """Whether a thing is a pair that names a start or a stop, of whatever."""
+    return is_tuple_of(2, thing) and (thing[0] == "start" or thing[0] == "stop")
+
+
+def move_let(running, thing):
     """Does a thing as a move of a Running, and tells whether it is one and was let."""
-    if not is_tuple_of(2, move):
+    if not is_move(thing):
         return False
+    kind, what = thing
     try:
-        if move[0] == "start":
-            running.start(move[1])
-        elif move[0] == "stop":
-            running.stop(move[1])
+        if kind == "start":
+            running.start(what)
         else:
-            return False
+            running.stop(what)
     except (NoStart, NoStop, NotSafe):
         return False
     return True
@@ -133,7 +137,7 @@ def is_changeover(book, old, new, thing):
     running = Running(book)
     running.start(old)
     for move in thing:
-        if not is_moved(running, move):
+        if not move_let(running, move):
             return False
     return running.now == new
 

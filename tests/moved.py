@@ -93,3 +93,17 @@ def leads(book, old, new, moves):
     """Whether moves of the right form lead from old to new."""
     plain = Plain(book, old)
     return all(plain.go(move) is None for move in moves) and plain.runs() == new
+
+
+def bent_moves(dice, moves, others):
+    """Moves of which some stand elsewhere, or are left out, or beside which others stand."""
+    bent = list(moves)
+    for _ in range(dice.randint(0, 3)):
+        if bent and dice.random() < 0.7:
+            move = bent.pop(dice.randrange(len(bent)))
+            bent.insert(dice.randint(0, len(bent)), move)
+        elif bent and dice.random() < 0.5:
+            bent.pop(dice.randrange(len(bent)))
+        else:
+            bent.insert(dice.randint(0, len(bent)), dice.choice(others))
+    return tuple(bent)

@@ -4,7 +4,6 @@ import unittest
 
 from books import chain_book, unlike_book, wide_book
 from drawn import judged
-from lockwright.ahead import choices, priority
 from lockwright.books import Book, packages, versions
 from lockwright.booktexts import entry_lines, read_book
 from lockwright.errors import NoEntry, NotEntry, NothingDone, NotQuestion, TooMany
@@ -18,7 +17,7 @@ from lockwright.tasks import task_of
 from lockwright.trimming import trimmed
 from lockwright.warrants import is_warrant
 from samples import EVERY, branching, chance, entry, nested, odd_things, odd_tuples, raised
-from worlds import NAMES, Truth, all_installations, some_rng, some_wanted, some_world, some_world_entry
+from worlds import NAMES, first_by_all, some_rng, some_wanted, some_world, some_world_entry
 
 BOOK = read_book("package app 1.0.0\n  needs lib (^1.0.0)\npackage app 2.0.0\n  needs lib (^2.0.0)\npackage lib 1.1.0\npackage lib 1.2.0\n")
 WISH = read_question("wish app (*)\n")
@@ -32,13 +31,6 @@ def papers_of(answer_told):
 
 def sources_in(papers):
     return {step[1] for paper in papers for step in paper if step[0] == "axiom"}
-
-
-def first_by_all(book, question):
-    """The first right installation by going through all of them, None if there is none."""
-    right = [thing for thing in all_installations(book) if Truth(book, question, thing).fault() is None]
-    key = lambda thing: [choices(book, question, name).index({n: v for n, v, _ in thing}.get(name)) for name in priority(book, question)]
-    return min(right, key=key) if right else None
 
 
 class Checks(unittest.TestCase):

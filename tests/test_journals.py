@@ -150,7 +150,7 @@ class RecoveredTest(unittest.TestCase):
                 self.check(BOOK, text + STRIKE, [BOOK], [])
         for text in ["strike app 2.0.0 \ndone\n", "strike  app 2.0.0\ndone\n", "strike app 2.0\ndone\n", "strike app 02.0.0\ndone\n", "strike app\ndone\n",
                      "strike app 2.0.0 f\ndone\n", " strike app 2.0.0\ndone\n", "strike app 2.0.0\n\ndone\n", "strike app 2.0.0\nstrike app 1.0.0\ndone\n",
-                     "done\n", "\n", "strike app 2.0.0done\n", "undo\ndone\n", "Strike app 2.0.0\ndone\n", "put app 1.0.0\ndone\n"]:
+                     "done\n", "\n", "strike app 2.0.0done\n", "app 2.0.0\ndone\n", "strike strike app 2.0.0\ndone\n", "undo\ndone\n", "Strike app 2.0.0\ndone\n", "put app 1.0.0\ndone\n"]:
             with self.subTest(text=text):
                 self.check(BOOK, text + STRIKE, [BOOK], [])
 

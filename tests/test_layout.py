@@ -52,6 +52,10 @@ FUNCTIONS = {
         "is_safe(book, thing)", "is_changeover(book, old, new, thing)", "affected(book, old, new)", "changeover(book, old, new)",
         "knots(book, installation)",
     ],
+    "fetching": ["digest(text)", "fetched(mirrors, manifest, name, version)", "fetched_all(mirrors, manifest, installation)"],
+    "building": ["built(book, installation, sources, recipe)"],
+    "fleets": ["rollout(book, old, new, many, least)", "is_rollout(book, old, new, many, least, thing)"],
+    "merging": ["merged(base, mine, theirs)"],
 }
 CLASSES = {
     "books": {"Entry": ["name", "version", "features", "needs", "bars"], "Book": ["entries"]},
@@ -67,6 +71,11 @@ METHODS_OF = {
     ("shelves", "Shelf"): [
         "__init__(self)", "cells(self)", "do(self, deed)", "cut(self, deed, many)", "meaning(self)", "edition(self)", "is_sound(self)",
         "deeds_for(self, installation, contents)", "lay(self, installation, contents)", "mend(self)",
+    ],
+    ("building", "Workshop"): ["__init__(self, recipe)", "build(self, book, installation, sources)", "made(self)"],
+    ("fleets", "Fleet"): [
+        "__init__(self, book, many, installation)", "start(self, machine, triples)", "stop(self, machine, names)", "runs(self, machine)",
+        "serving(self, name)", "least_served(self)", "copy(self)",
     ],
 }
 CHANGING = ["append", "clear", "extend", "insert", "pop", "remove", "reverse", "setdefault", "update", "sort"]
@@ -85,7 +94,7 @@ METHODS = set(
 )
 BARRED = re.compile(
     r"\b(type|typing|enum|Enum|namedtuple|TypedDict|abstractmethod|ABC|Generic|Protocol|Flag|register|mro|elements|open|input"
-    r"|law|global|async|await|eval|exec|exit|id|vars|dir|locals|globals|chr|pow|bytes|float|complex)\b"
+    r"|law|global|async|await|eval|exec|exit|id|vars|dir|locals|globals|chr|pow|float|complex)\b"
 )
 NODES = (
     ast.Global, ast.AsyncFunctionDef, ast.AsyncFor, ast.AsyncWith, ast.Await, ast.Div, ast.MatMult, ast.Import,
@@ -242,6 +251,9 @@ class RulesTest(unittest.TestCase):
                     self.assertIn(node.func.id, own | BUILTINS, stem)
                 if isinstance(node, ast.Call) and isinstance(node.func, ast.Attribute):
                     self.assertIn(node.func.attr, METHODS | methods, stem)
+            # Whether something is bytes may be asked; they are not made.
+            asked = [part for node in ast.walk(tree) if isinstance(node, ast.Call) and ast.unparse(node.func) == "isinstance" for part in ast.walk(node)]
+            self.assertEqual([node for node in ast.walk(tree) if isinstance(node, ast.Name) and node.id == "bytes" and node not in asked], [], stem)
 
     def test_names(self):
         for stem, tree in TREES.items():

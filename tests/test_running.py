@@ -8,7 +8,7 @@ from lockwright.books import Book
 from lockwright.booktexts import read_book
 from lockwright.errors import NoStart, NoStop, NotSafe
 from lockwright.running import Running, affected, changeover, is_changeover, is_safe, knots
-from moved import Plain, leads, needs_in, safe_ones, some_safe_worlds, told_affected, told_knots
+from moved import Plain, bent_moves, leads, needs_in, safe_ones, some_safe_worlds, told_affected, told_knots
 from samples import branching, chance, entry, nested, odd_things, odd_tuples, raised
 from worlds import NAMES, lots
 
@@ -389,6 +389,7 @@ class IsChangeoverTest(unittest.TestCase):
             self.assertIs(is_changeover(BOOK, self.OLD, self.NEW, moves[:at] + moves[at + 1:]), False)
             self.assertIs(is_changeover(BOOK, self.OLD, self.NEW, moves[:at] + (move,) + moves[at:]), False)
             for thing in ODD + NO_INSTALLATIONS:
+                self.assertIs(is_changeover(BOOK, self.OLD, self.NEW, moves[:at] + (thing,) + moves[at:]), False)
                 self.assertIs(is_changeover(BOOK, self.OLD, self.NEW, moves[:at] + (thing,) + moves[at + 1:]), False)
                 self.assertIs(is_changeover(BOOK, self.OLD, self.NEW, moves[:at] + ((move[0], thing),) + moves[at + 1:]), False)
                 self.assertIs(is_changeover(BOOK, self.OLD, self.NEW, moves[:at] + ((thing, move[1]),) + moves[at + 1:]), False)
@@ -416,20 +417,13 @@ class IsChangeoverTest(unittest.TestCase):
         for book, safe in some_safe_worlds(dice, 40, 300):
             for _ in range(6):
                 old, new = dice.choice(safe), dice.choice(safe)
-                moves = list(changeover(book, old, new))
+                moves = changeover(book, old, new)
+                others = [("start", new[:1]), ("stop", tuple(triple[0] for triple in old[:1])), ("start", ())]
                 for _ in range(8):
-                    bent = list(moves)
-                    for _ in range(dice.randint(1, 2)):
-                        if bent and dice.random() < 0.7:
-                            move = bent.pop(dice.randrange(len(bent)))
-                            bent.insert(dice.randint(0, len(bent)), move)
-                        elif bent and dice.random() < 0.5:
-                            bent.pop(dice.randrange(len(bent)))
-                        else:
-                            bent.insert(dice.randint(0, len(bent)), dice.choice([("start", new[:1]), ("stop", tuple(triple[0] for triple in old[:1])), ("start", ())]))
+                    bent = bent_moves(dice, moves, others)
                     right = leads(book, old, new, bent)
                     told[right] += 1
-                    self.assertIs(is_changeover(book, old, new, tuple(bent)), right)
+                    self.assertIs(is_changeover(book, old, new, bent), right)
         self.assertGreater(min(told.values()), 100)
 
 

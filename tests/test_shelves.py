@@ -273,6 +273,7 @@ class DeedsTest(unittest.TestCase):
             ({}, []), ({"slot 0": ""}, ["slot 0"]), ({"slot 1": "size 0\n", "slot 0": slot(1, ())}, ["slot 1"]), ({"slot 0": slot(1, ()), "slot 1": slot(2, ())}, []),
             ({"slot 0": slot(2, ()), "slot 1": slot(2, (LIB,)), CELL: whole("x")}, [CELL]), ({"slot 0": slot(1, ()), "slot 1": slot(2, (LIB,)), CELL: whole("x")}, []),
             ({"slot 0": slot(1, (APP,)), "slot 1": slot(2, (LIB,)), CELL: "not whole", cell(APP): whole("x")}, [cell(APP)]), ({"a": "", "slot 0 ": "x", CELL: whole("x")}, [CELL]),
+            ({"slot 0": slot(0, ()), "slot 1": slot(1, ())}, ["slot 0"]), ({"slot 1": slot("01", ())}, ["slot 1"]), ({"slot 1": slot(1000000000000, (LIB,)), CELL: whole("x")}, ["slot 1", CELL]),
         ]:
             shelf = shelf_of(disk)
             before = (shelf.meaning(), shelf.edition(), shelf.is_sound())

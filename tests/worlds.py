@@ -2,6 +2,7 @@
 
 import itertools
 
+from lockwright.ahead import choices, priority
 from lockwright.books import Book
 from lockwright.questions import Question
 from lockwright.ranges import read_range
@@ -60,6 +61,13 @@ def all_installations(book):
         )
     for picked in itertools.product(*ways.values()):
         yield tuple(triple for triple in picked if triple is not None)
+
+
+def first_by_all(book, question):
+    """The first right installation by going through all of them, None if there is none."""
+    right = [thing for thing in all_installations(book) if Truth(book, question, thing).fault() is None]
+    key = lambda thing: [choices(book, question, name).index({n: v for n, v, _ in thing}.get(name)) for name in priority(book, question)]
+    return min(right, key=key) if right else None
 
 
 class Truth:
