@@ -218,6 +218,7 @@ class BookTest(unittest.TestCase):
         book = Book(self.ENTRIES)
         self.assertEqual(packages(book), ("app", "lib", "zoo"))
         self.assertEqual(packages(Book(())), ())
+        self.assertEqual(packages(Book(tuple(entry(name, (1, 0, 0)) for name in "abcdefghijklmnop"))), tuple("abcdefghijklmnop"))
         self.assertEqual(versions(book, "app"), ((10, 0, 0), (2, 0, 0), (1, 0, 0)))
         self.assertEqual(versions(book, "lib"), ((0, 9, 0),))
         self.assertEqual(versions(book, "none"), ())
