@@ -1,17 +1,10 @@
 """Contents fetched from mirrors that may lie, each judged by its digest in a manifest."""
 
-from lockwright.books import Book, Entry
-from lockwright.building import Workshop
 from lockwright.contents import is_pair
 from lockwright.errors import NoManifest, NoMirrors, NotFetched
-from lockwright.fleets import Fleet
-from lockwright.houses import House
 from lockwright.locks import locks_of
-from lockwright.questions import Question
-from lockwright.running import Running
 from lockwright.shapes import is_number
-from lockwright.shelves import Shelf
-from lockwright.tasks import Task
+from lockwright.strangers import is_function
 
 MIRRORS_MOST = 5
 DIGEST_BEGIN = 7
@@ -27,22 +20,12 @@ def digest(text):
     return found
 
 
-def is_plain(thing):
-    """Whether a thing is of a plain kind, which no function is."""
-    return thing is None or isinstance(thing, (int, str, bytes, list, tuple, dict, Exception))
-
-
-def is_ours(thing):
-    """Whether a thing is of a class of the interface, which no function is."""
-    return isinstance(thing, (Entry, Book, Question, Task, House, Running, Shelf, Workshop, Fleet))
-
-
 def is_mirrors(thing):
-    """Whether a thing is a tuple of 1 to 5 functions, as far as that can be told ahead of calling them."""
+    """Whether a thing is a tuple of 1 to 5 functions."""
     if not isinstance(thing, tuple) or not 1 <= len(thing) <= MIRRORS_MOST:
         return False
     for mirror in thing:
-        if is_plain(mirror) or is_ours(mirror):
+        if not is_function(mirror):
             return False
     return True
 

@@ -1,5 +1,6 @@
 """Promise 12.1: digests, manifests, and contents fetched from mirrors that may lie."""
 
+import functools
 import unittest
 
 from lockwright.books import Book
@@ -109,6 +110,57 @@ class FetchedTest(unittest.TestCase):
             self.assertIsNotNone(raised(NoMirrors, fetched, thing, None, None, None))
             self.assertIsNotNone(raised(NoMirrors, fetched_all, thing, MANIFEST, WHOLE))
             self.assertIsNotNone(raised(NoMirrors, fetched_all, thing, {}, ()))
+
+    def test_mirrors_that_are_no_functions(self):
+        things = [
+            range(3), slice(3), bytearray(b"a"), memoryview(b"a"), Ellipsis, NotImplemented, object(), iter([1]), {}.keys(), enumerate([]),
+            [], {}.values(), {}.items(), iter(()), iter({}), reversed([]), zip(), map(len, []), (thing for thing in ()), property(),
+            classmethod(never), KeyboardInterrupt(), SystemExit(), unittest, never.__code__, vars(Book), int | str, list[int], int, str, Book, NoMirrors,
+        ]
+        for thing in things:
+            for mirrors in [(thing,), (never, thing), (thing, never), (failing, never, thing, never, never), (thing,) * 5]:
+                self.assertIsNotNone(raised(NoMirrors, fetched, mirrors, {("a", (1, 0, 0)): 5}, "a", (1, 0, 0)), repr(thing))
+                self.assertIsNotNone(raised(NoMirrors, fetched, mirrors, None, "a", (1, 0, 0)), repr(thing))
+                self.assertIsNotNone(raised(NoMirrors, fetched_all, mirrors, {("a", (1, 0, 0)): 5}, (("a", (1, 0, 0), ()),)), repr(thing))
+                self.assertIsNotNone(raised(NoMirrors, fetched_all, mirrors, {}, (("a", (1, 0, 0), ()),)), repr(thing))
+                self.assertIsNotNone(raised(NoMirrors, fetched_all, mirrors, thing, ()), repr(thing))
+
+    def test_functions_of_all_kinds(self):
+        class Stranger:
+            def told(self, name, version):
+                return TEXTS[(name, version)]
+
+            def __call__(self, name, version):
+                return TEXTS[(name, version)]
+
+            @staticmethod
+            def apart(name, version):
+                return TEXTS[(name, version)]
+
+            @classmethod
+            def of_class(cls, name, version):
+                return TEXTS[(name, version)]
+
+        one = mirror([], TEXTS)
+        kinds = [
+            one, lambda name, version: TEXTS[(name, version)], Stranger().told, Stranger(), Stranger().apart, Stranger.apart, Stranger().of_class,
+            Stranger.of_class, staticmethod(one), functools.partial(one), functools.partial(Stranger.told, None), functools.lru_cache(one), one.__call__,
+        ]
+        for kind in kinds:
+            self.assertEqual(fetched((kind,), MANIFEST, *APP), (TEXTS[APP], 0))
+            self.assertEqual(fetched((mirror([], {}), kind, never), MANIFEST, *APP), (TEXTS[APP], 1))
+            self.assertEqual(fetched_all((kind, never), MANIFEST, WHOLE), TEXTS)
+        # Python's own functions are functions, too: this one tells a version, which is no text.
+        self.assertEqual(fetched(({}.get, one), MANIFEST, *APP), (TEXTS[APP], 1))
+
+    def test_type_errors_of_functions_go_on(self):
+        def told(name, version):
+            return None + 1
+        for wrong in [told, len, lambda: "", lambda name: "", "".join, [].append]:
+            with self.assertRaises(TypeError):
+                fetched((wrong, never), MANIFEST, *APP)
+            with self.assertRaises(TypeError):
+                fetched_all((mirror([], {}), wrong), MANIFEST, WHOLE)
 
     def test_no_manifest(self):
         wrong = [
